@@ -4,6 +4,7 @@ import (
 	"go/ast"
 	"go/parser"
 	"go/token"
+	"slices"
 	"testing"
 )
 
@@ -31,6 +32,28 @@ func hasBranch(t *testing.T, path string, tok token.Token) bool {
 	return hasNode(t, path, func(n ast.Node) bool {
 		b, is := n.(*ast.BranchStmt)
 		return is && b.Tok == tok
+	})
+}
+
+// hasFunctionField asks for a struct of the file with a function in a field,
+// the function's type written there or named in the file.
+func hasFunctionField(t *testing.T, path string) bool {
+	named := map[string]bool{}
+	hasNode(t, path, func(n ast.Node) bool {
+		if spec, is := n.(*ast.TypeSpec); is {
+			_, named[spec.Name.Name] = spec.Type.(*ast.FuncType)
+		}
+		return false
+	})
+	return hasNode(t, path, func(n ast.Node) bool {
+		s, is := n.(*ast.StructType)
+		return is && slices.ContainsFunc(s.Fields.List, func(f *ast.Field) bool {
+			if name, is := f.Type.(*ast.Ident); is {
+				return named[name.Name]
+			}
+			_, is := f.Type.(*ast.FuncType)
+			return is
+		})
 	})
 }
 

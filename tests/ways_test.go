@@ -95,3 +95,56 @@ func iteratorType(e ast.Expr) bool {
 	}
 	return false
 }
+
+func hasCall(t *testing.T, path string, name string) bool {
+	return hasNode(t, path, func(n ast.Node) bool {
+		call, is := n.(*ast.CallExpr)
+		if !is {
+			return false
+		}
+		called, is := call.Fun.(*ast.Ident)
+		return is && called.Name == name
+	})
+}
+
+// structsOf are the names of the structs that the file declares.
+func structsOf(t *testing.T, path string) map[string]bool {
+	out := map[string]bool{}
+	hasNode(t, path, func(n ast.Node) bool {
+		if spec, is := n.(*ast.TypeSpec); is {
+			_, out[spec.Name.Name] = spec.Type.(*ast.StructType)
+		}
+		return false
+	})
+	return out
+}
+
+func hasMapOfStructs(t *testing.T, path string) bool {
+	structs := structsOf(t, path)
+	return hasNode(t, path, func(n ast.Node) bool {
+		m, is := n.(*ast.MapType)
+		if !is {
+			return false
+		}
+		key, is := m.Key.(*ast.Ident)
+		return is && structs[key.Name]
+	})
+}
+
+// hasStructCompared asks for a struct of the file, written out, on one side of
+// a == or !=.
+func hasStructCompared(t *testing.T, path string) bool {
+	structs := structsOf(t, path)
+	writtenOut := func(e ast.Expr) bool {
+		literal, is := ast.Unparen(e).(*ast.CompositeLit)
+		if !is {
+			return false
+		}
+		name, is := literal.Type.(*ast.Ident)
+		return is && structs[name.Name]
+	}
+	return hasNode(t, path, func(n ast.Node) bool {
+		b, is := n.(*ast.BinaryExpr)
+		return is && (b.Op == token.EQL || b.Op == token.NEQ) && (writtenOut(b.X) || writtenOut(b.Y))
+	})
+}

@@ -107,6 +107,22 @@ func hasCall(t *testing.T, path string, name string) bool {
 	})
 }
 
+// hasCallOf asks for a call of what another package or value has by that name.
+func hasCallOf(t *testing.T, path string, of string, name string) bool {
+	return hasNode(t, path, func(n ast.Node) bool {
+		call, is := n.(*ast.CallExpr)
+		if !is {
+			return false
+		}
+		called, is := call.Fun.(*ast.SelectorExpr)
+		if !is {
+			return false
+		}
+		owner, is := called.X.(*ast.Ident)
+		return is && owner.Name == of && called.Sel.Name == name
+	})
+}
+
 // structsOf are the names of the structs that the file declares.
 func structsOf(t *testing.T, path string) map[string]bool {
 	out := map[string]bool{}

@@ -379,6 +379,7 @@ func TestGivenSaysTheSame(t *testing.T) {
 }
 
 func TestGivenOfMadePlaysSaysTheSame(t *testing.T) {
+	t.Parallel()
 	ends, given := map[int64]int{}, 0
 	for n, l := range playsToAsk(t, 600) {
 		if len(impl.Given(l)) == 0 && impl.DefaultsIn(l) > 0 {
@@ -482,6 +483,7 @@ func TestGivenOfEachKindOfDeeds(t *testing.T) {
 
 // Whatever stands within whatever stands within whatever.
 func TestGivenWithinOneAnother(t *testing.T) {
+	t.Parallel()
 	arounds := []string{
 		"(do HERE (say 'd'))", "(if a HERE (say 'e'))", "(for a 1 3 (do HERE (say a)))", "(while (< a 4) (do (set a (+ a 1)) HERE (say 'w')))", "(say (call (fn () HERE (back a))))", "(run (call (fn ((a 2)) HERE (set a 9)) none))", "(say (call (fn ((b a) (a b)) HERE (let a 7) (back b))))", "(say (call (fn ((c (call (fn () HERE (back a))))) (back c))))", "(say (call (fn (a (d (call (fn ((a 5)) HERE)))) (back (join a d))) 6))", "(do (let f (fn ((a 3) b) HERE)) (set a 7) (run (call f)) (run (call f 8)))", "(run (call (fn (g) (run (call g)) (run (call g 1))) (fn ((a (+ a 1))) HERE)))",
 	}

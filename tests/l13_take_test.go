@@ -402,6 +402,7 @@ func inOneTake(list []tree) []tree {
 }
 
 func TestTakenOfMadePlaysSaysTheSame(t *testing.T) {
+	t.Parallel()
 	ends, takes, several := map[int64]int{}, 0, 0
 	check := func(n int, l []string) {
 		if len(impl.Taken(l)) == 0 && impl.TakesIn(l) > 0 {
@@ -473,6 +474,7 @@ func TestTakenOfEachKindOfSum(t *testing.T) {
 
 // Whatever stands within whatever stands within whatever.
 func TestTakenWithinOneAnother(t *testing.T) {
+	t.Parallel()
 	arounds := []string{
 		"(do (take (a) (thing (+ a 1))) HERE (say 'd'))", "(if b (do (take (c) (thing b)) HERE (say c)) (say 'e'))", "(for a 1 3 (do (take (b) (thing a)) HERE (say (join a b))))", "(while (< b 4) (do (set b (+ b 1)) (take (a c) (thing b)) HERE (say 'w')))", "(say (call (fn () (take (a) (thing 2)) HERE (back a))))", "(take (d e) (thing (call (fn () HERE (back b))) a))", "(do (take (d) (call (fn () (take (b) (thing a)) HERE (back (thing b))))) (say d))", "(run (call (fn ((d (call (fn () HERE (back a))))) (take (a) (thing d)) (say a))))", "(do (let f (fn (t) (take (a b) t) HERE)) (run (call f (thing 3))) (run (call f (thing 2 1))))", "(run (call (fn (g) (take (h) (thing g)) (run (call h)) (run (call g))) (fn () (take (b) (thing (+ b 1))) HERE)))", "(do HERE)",
 	}

@@ -373,6 +373,7 @@ func inJoins(list []tree) []tree {
 }
 
 func TestUnjoinedOfMadePlaysSaysTheSame(t *testing.T) {
+	t.Parallel()
 	ends, joins, several := map[int64]int{}, 0, 0
 	check := func(n int, l []string) {
 		if !impl.Scoped(l) || len(impl.Unjoined(l)) == 0 && impl.JoinsIn(l) > 0 {
@@ -533,6 +534,7 @@ func TestUnjoinedOfEachLength(t *testing.T) {
 
 // Whatever stands within whatever stands within whatever.
 func TestUnjoinedWithinOneAnother(t *testing.T) {
+	t.Parallel()
 	arounds := []string{
 		"(join HERE)", "(join HERE a 'y')", "(join 'x' HERE a)", "(join a (join) HERE)", "(& HERE (join a))", "(call (fn ((b HERE) (a 2)) (say (join a '-')) (back (join b a))))", "(call (fn () (let a HERE) (for i 0 2 (say (join i a))) (back a)))", "(get (thing (join) HERE) 1)", "(call (fn () (set a (+ a 1)) (while (< a 4) (do (set a (+ a 1)) (say (join a HERE)))) (back (join a))))", "(join (call (fn (t) (take (c b) t) (say (join c)) (back b)) (thing a HERE)))",
 	}

@@ -453,6 +453,7 @@ func manyHidden(l []string) []string {
 }
 
 func TestBaredOfMadePlaysSaysTheSame(t *testing.T) {
+	t.Parallel()
 	ends, hidden, several := map[int64]int{}, 0, 0
 	check := func(n int, l []string) {
 		if !impl.Scoped(l) || len(impl.Bared(l)) == 0 {
@@ -600,6 +601,7 @@ func TestBaredInEachPlace(t *testing.T) {
 
 // Whatever stands within whatever stands within whatever.
 func TestBaredWithinOneAnother(t *testing.T) {
+	t.Parallel()
 	arounds := []string{
 		"(do (hidden p) (hput p t (+ n 10)) HERE (say (hget p t)))", "(do HERE (hput p t n) (say (hget p t)) (hidden p))", "(if n (do (hidden q) (hput q t (hget p t)) HERE (say (hget q t))) (say 'e'))", "(for n 1 3 (do (hidden p) (hput p t n) HERE (say (hget p t))))", "(while (< n 3) (do (set n (+ n 1)) HERE (hput q t n) (hidden q) (say 'w')))", "(say (call (fn (p) (hidden p) (hput p t p) HERE (back (hget p t))) (hget p t)))", "(hput p t (call (fn () HERE (back (hget q t)))))", "(run (call (fn ((d (call (fn () (hidden q) (hput q t 4) HERE (back (hget q t)))))) (hidden p) (hput p t d) HERE)))", "(do (let f (fn (x) (vars y) (hput q t x) HERE (hidden q))) (run (call f 3)) (run (call f 2)))", "(do HERE)",
 	}

@@ -429,6 +429,7 @@ func manyTurned(l []string) []string {
 }
 
 func TestTurnedOfMadePlaysSaysTheSame(t *testing.T) {
+	t.Parallel()
 	ends, fors, several := map[int64]int{}, 0, 0
 	check := func(n int, l []string) {
 		if !impl.Scoped(l) || len(impl.Turned(l)) == 0 {
@@ -562,6 +563,7 @@ func TestTurnedInEachPlace(t *testing.T) {
 
 // Whatever stands within whatever stands within whatever.
 func TestTurnedWithinOneAnother(t *testing.T) {
+	t.Parallel()
 	arounds := []string{
 		"(for a 0 2 HERE)", "(for b a (+ a 2) (do (say (join a b)) HERE (set b 9)))", "(do (for a 0 3 (do (if (= a 1) (next) (do)) HERE (if (= a 2) (leave) (say 'f')))))", "(if b (for c 0 2 HERE) (say 'e'))", "(while (< b 3) (do (set b (+ b 1)) (for a b 3 HERE)))", "(say (call (fn (c) (for a 0 c HERE) (back a)) 2))", "(for c (call (fn () HERE (back 0))) 2 (say c))", "(for a 0 (call (fn () HERE (back b))) (say a))", "(do (let f (fn () (for b 0 2 HERE))) (run (call f)) (run (call f)))", "(run (call (fn ((d (call (fn () (for a 0 2 HERE) (back a))))) (say d))))", "(do HERE)",
 	}
